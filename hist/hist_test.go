@@ -221,29 +221,29 @@ func TestTickets(t *testing.T) {
 	}
 }
 
+// falls tells whether the Now of any event is less than that of one ahead of it, looks left out.
+func falls(l []api.Event) bool {
+	var nows []uint64
+	for _, e := range l {
+		if e.Kind != api.ELook {
+			nows = append(nows, e.Now)
+		}
+	}
+	return !slices.IsSorted(nows)
+}
+
 // 21.1: no Now falls; it may stay, and rise at any event. A look is asked for its ID alone: its Now is not held against those ahead, nor those behind against it.
 func TestNows(t *testing.T) {
 	for at, e := range tale() {
-		var before uint64
-		if at > 0 {
-			before = tale()[at-1].Now
-		}
 		for _, now := range []uint64{0, 1, 4, 5, 6, 8, 9, 10, 1 << 32, 1 << 63, most} {
-			want := api.ErrForm
-			if now >= before || e.Kind == api.ELook {
-				want = api.OK
-			}
-			wrong := e
-			wrong.Now = now
-			hold(t, fmt.Sprintf("Ok of now %d at %d", now, at), hist.Ok(one, with(at, wrong)), want)
-			rest := tale()[at+1:]
-			if e.Kind != api.ELook && len(rest) > 0 && rest[0].Kind != api.ELook && now > rest[0].Now {
-				want = api.ErrForm
-			}
-			if e.Kind == api.ELook {
-				hold(t, fmt.Sprintf("Ok of now %d at %d and the rest", now, at), hist.Ok(one, append(with(at, wrong), rest...)), api.OK)
-			} else if len(rest) > 0 {
-				hold(t, fmt.Sprintf("Ok of now %d at %d and the next", now, at), hist.Ok(one, append(with(at, wrong), rest[0])), want)
+			e.Now = now
+			whole := append(with(at, e), tale()[at+1:]...)
+			for n := at + 1; n <= len(whole); n++ {
+				want := api.OK
+				if falls(whole[:n]) {
+					want = api.ErrForm
+				}
+				hold(t, fmt.Sprintf("Ok of now %d at %d of %d", now, at, n), hist.Ok(one, whole[:n]), want)
 			}
 		}
 	}
