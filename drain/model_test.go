@@ -165,9 +165,7 @@ func TestEveryShortRow(t *testing.T) {
 		row := []int{i % n, i / n % n, i / n / n % n, i / n / n / n}
 		m := played(t, conf, row, func(*exec.Machine) {})
 		asked(t, m, row)
-		if i%5 == 0 {
-			closes(t, conf, row, uint64(i))
-		}
+		closes(t, conf, row, uint64(i))
 	}
 }
 
